@@ -1,0 +1,1 @@
+"""Cells kept by most, whole."""
