@@ -1,21 +1,12 @@
-"""Cells kept by most: the nodes, the clients, the net between them, and the calls on them.
+"""Cells kept by most: the nodes, the clients and the net between them as one world, and the calls on it."""
 
-A copy is a tuple of a number, a client (both together are its stamp) and a value.
-"""
+from cellsbymost.parts import ASKS, CELLS, KEEP, KEPT, TELLS, Client, Node, Operation, best_of
 
 CLIENTS = 4
-CELLS = 3
 MOST_NODES = 5
 GREATEST_WEIGHT = 9
 GREATEST_VALUE = 99
 ROOM = 100
-ZERO_COPY = (0, 0, 0)
-
-# The kinds of letters.
-ASKS = 0
-TELLS = 1
-KEEP = 2
-KEPT = 3
 
 # What came of a letter.
 NO_USE = 0
@@ -36,101 +27,17 @@ WRITE = 2
 TAKE = 3
 AGAIN = 4
 LOSE = 5
-# 6 is nudge, the one that is left where it is none of these.
+NUDGE = 6
+QUIT = 7
+STOP = 8
+START = 9
+LETTERS = 10
+NODE = 11
+CLIENT = 12
+# 13 is record, the one that is left where it is none of these.
 
 # How many numbers stand behind a call's own. Begin is not among them: its row tells its length itself.
-NUMBERS_BEHIND = {1: 2, 2: 3, 3: 1, 4: 1, 5: 1, 6: 1}
-
-
-def has_greater_stamp(copy, other):
-    if copy[0] == other[0]:
-        return copy[1] > other[1]
-    return copy[0] > other[0]
-
-
-def has_same_stamp(copy, other):
-    return copy[0] == other[0] and copy[1] == other[1]
-
-
-def best_of(copies):
-    best = copies[0]
-    for copy in copies:
-        if has_greater_stamp(copy, best):
-            best = copy
-    return best
-
-
-class Letter:
-    def __init__(self, kind, to, sender, operation, cell, enclosed):
-        self.kind = kind
-        self.to = to
-        self.sender = sender
-        self.operation = operation
-        self.cell = cell
-        self.enclosed = enclosed
-
-
-def reply_to(letter, kind, enclosed):
-    return Letter(kind, letter.sender, letter.to, letter.operation, letter.cell, enclosed)
-
-
-class Node:
-    def __init__(self, weight):
-        self.weight = weight
-        self.runs = True
-        self.copies = [ZERO_COPY for cell in range(CELLS)]
-
-    def answer_to(self, letter):
-        if letter.kind == ASKS:
-            return reply_to(letter, TELLS, self.copies[letter.cell])
-        if has_greater_stamp(letter.enclosed, self.copies[letter.cell]):
-            self.copies[letter.cell] = letter.enclosed
-        return reply_to(letter, KEPT, ZERO_COPY)
-
-
-class Operation:
-    def __init__(self, client, number, cell, writes, value, began):
-        self.client = client
-        self.number = number
-        self.cell = cell
-        self.writes = writes
-        self.value = value
-        self.began = began
-        # The record tells -1 for both of what has not ended.
-        self.ended = -1
-        self.result = -1
-        # The nodes heard of, and beside each, in the same place, the copy it told.
-        self.heard = []
-        self.told = []
-        # The copy to be kept: None for as long as the operation still asks.
-        self.wanted = None
-        self.keepers = []
-
-    def counted_nodes(self):
-        if self.wanted is None:
-            return self.heard
-        return self.keepers
-
-    def nodes_that_told(self, copy):
-        return [node for node, told in zip(self.heard, self.told) if has_same_stamp(told, copy)]
-
-    def letter_to(self, node):
-        if self.wanted is None:
-            return Letter(ASKS, node, self.client, self.number, self.cell, ZERO_COPY)
-        return Letter(KEEP, node, self.client, self.number, self.cell, self.wanted)
-
-
-class Client:
-    def __init__(self):
-        self.begun = 0
-        self.gone = False
-        self.under_way = None
-
-    def is_at_work(self):
-        return self.under_way is not None and not self.gone
-
-    def is_free(self):
-        return self.under_way is None and not self.gone
+NUMBERS_BEHIND = {1: 2, 2: 3, 3: 1, 4: 1, 5: 1, 6: 1, 7: 1, 8: 1, 9: 1, 10: 0, 11: 1, 12: 1, 13: 0}
 
 
 class World:
@@ -207,6 +114,52 @@ class World:
         if not client.is_at_work():
             return [NOT_NOW]
         return [self.send_to_missing(client.under_way)]
+
+    def leave(self, number):
+        if number >= CLIENTS:
+            return [NO_SUCH]
+        client = self.clients[number]
+        if client.gone:
+            return [NOT_NOW]
+        client.gone = True
+        return [0]
+
+    def stop_node(self, number):
+        return self.set_running(number, False)
+
+    def start_node(self, number):
+        return self.set_running(number, True)
+
+    def set_running(self, number, runs):
+        if number >= len(self.nodes):
+            return [NO_SUCH]
+        node = self.nodes[number]
+        if node.runs == runs:
+            return [NOT_NOW]
+        node.runs = runs
+        return [0]
+
+    def tell_letters(self):
+        numbers = [len(self.row)]
+        for letter in self.row:
+            numbers.extend(letter.in_numbers())
+        return numbers
+
+    def tell_node(self, number):
+        if number >= len(self.nodes):
+            return [NO_SUCH]
+        return self.nodes[number].in_numbers()
+
+    def tell_client(self, number):
+        if number >= CLIENTS:
+            return [NO_SUCH]
+        return self.clients[number].in_numbers()
+
+    def tell_record(self):
+        numbers = [len(self.record)]
+        for operation in self.record:
+            numbers.extend(operation.record_in_numbers())
+        return numbers
 
     def hand_over(self, letter):
         if letter.kind == ASKS or letter.kind == KEEP:
@@ -291,7 +244,21 @@ def answer_of(world, call):
         return world.again(call[1])
     if call[0] == LOSE:
         return world.lose(call[1])
-    return world.nudge(call[1])
+    if call[0] == NUDGE:
+        return world.nudge(call[1])
+    if call[0] == QUIT:
+        return world.leave(call[1])
+    if call[0] == STOP:
+        return world.stop_node(call[1])
+    if call[0] == START:
+        return world.start_node(call[1])
+    if call[0] == LETTERS:
+        return world.tell_letters()
+    if call[0] == NODE:
+        return world.tell_node(call[1])
+    if call[0] == CLIENT:
+        return world.tell_client(call[1])
+    return world.tell_record()
 
 
 def answers(calls):

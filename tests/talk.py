@@ -31,6 +31,35 @@ def nudge(client):
     return [6, client]
 
 
+def quit(client):
+    return [7, client]
+
+
+def stop(node):
+    return [8, node]
+
+
+def start(node):
+    return [9, node]
+
+
+# The calls that only tell are called see_.., as tests have letters, nodes and clients of their own.
+def see_letters():
+    return [10]
+
+
+def see_node(node):
+    return [11, node]
+
+
+def see_client(client):
+    return [12, client]
+
+
+def see_record():
+    return [13]
+
+
 def line_of(calls):
     return [number for call in calls for number in call]
 
@@ -49,6 +78,29 @@ def ask(*calls):
 
 def last(*calls):
     return ask(*calls)[-1]
+
+
+def in_groups(answer, size):
+    """What is told as how many and so many numbers of each: a tuple for each."""
+    groups = [tuple(answer[first:first + size]) for first in range(1, len(answer), size)]
+    if [len(group) for group in groups] != [size] * answer[0]:
+        raise AssertionError(f"not as many as told: {answer}")
+    return groups
+
+
+def letters_after(*calls):
+    return in_groups(last(*calls, see_letters()), 8)
+
+
+def record_after(*calls):
+    return in_groups(last(*calls, see_record()), 7)
+
+
+def seen_after(*calls):
+    """All that can be told of the world after these calls: the letters, the record, five nodes, four clients."""
+    nodes = [see_node(node) for node in range(5)]
+    clients = [see_client(client) for client in range(4)]
+    return ask(*calls, see_letters(), see_record(), *nodes, *clients)[len(calls):]
 
 
 def row_length(*calls):

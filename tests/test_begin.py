@@ -2,7 +2,11 @@
 
 import unittest
 
-from talk import ask, begin, last, lose, nudge, read, row_length, take, written_to
+from talk import (again, ask, begin, last, letters_after, lose, nudge, quit, read, row_length, see_client, see_node,
+                  seen_after, start, stop, take, write, written_to)
+
+# The letters, the record, nodes 0 to 4 and clients 0 to 3 of a world of three nodes as at first.
+AT_FIRST = [[0], [0]] + [[1] + [0] * 9] * 3 + [[-1]] * 2 + [[0, 0]] * 4
 
 
 class Begin(unittest.TestCase):
@@ -48,6 +52,34 @@ class Begin(unittest.TestCase):
         self.assertEqual(last(*calls, nudge(0)), [-2])
         self.assertEqual(ask(*calls, read(0, 0), take(0), take(0))[-3:], [[1], [1], [4, 0]])
 
+    def test_all_is_as_at_first(self):
+        self.assertEqual(seen_after(begin(1, 1, 1)), AT_FIRST)
+        self.assertEqual(seen_after(begin(0, 9, 3)), AT_FIRST)
+
+    def test_begin_again_makes_all_that_is_told_as_at_first(self):
+        calls = written_to((1, 1, 1), [0, 1], 0, 0, 7) + [read(0, 0), again(0), write(1, 2, 5)]
+        calls += [quit(0), quit(3), stop(1)]
+        self.assertNotIn([0], seen_after(*calls)[:2])
+        self.assertEqual(seen_after(*calls, begin(1, 1, 1)), AT_FIRST)
+
+    def test_clients_that_were_gone_are_there_again(self):
+        calls = [begin(1), read(2, 0), quit(2), quit(1), begin(1)]
+        for client in range(4):
+            self.assertEqual(last(*calls, see_client(client)), [0, 0])
+            self.assertEqual(ask(*calls, read(client, 0), nudge(client), quit(client))[-3:], [[1], [1], [0]])
+
+    def test_nodes_that_had_stopped_run_again(self):
+        calls = [begin(1, 1), stop(0), stop(1), begin(1, 1)]
+        for node in range(2):
+            self.assertEqual(last(*calls, see_node(node))[0], 1)
+            self.assertEqual(ask(*calls, start(node), stop(node))[-2:], [[-2], [0]])
+            self.assertEqual(last(*calls, read(0, 0), take(node)), [1])
+
+    def test_operations_are_numbered_from_1_on_again(self):
+        calls = written_to((1,), [0], 2, 1, 7) + [read(2, 0), begin(1), write(2, 1, 8)]
+        self.assertEqual(last(*calls), [1])
+        self.assertEqual(letters_after(*calls), [(0, 0, 2, 1, 1, 0, 0, 0)])
+
     def test_begin_again_with_other_weights(self):
         self.assertEqual(row_length(begin(1, 1), read(0, 0), begin(1, 1, 1, 1), read(0, 0)), 4)
 
@@ -57,6 +89,8 @@ class Begin(unittest.TestCase):
             self.assertEqual(last(*calls), [-1])
             self.assertEqual(row_length(*calls), 1)
             self.assertEqual(ask(*calls, read(0, 0), take(0), take(0))[-3:], [[-2], [1], [4, 7]])
+            calls = written_to((1, 1, 1), [0, 1], 0, 0, 7) + [read(0, 0), quit(1), stop(2)]
+            self.assertEqual(seen_after(*calls, begin(*weights)), seen_after(*calls))
 
 
 if __name__ == "__main__":
